@@ -1,0 +1,1 @@
+"""Wroteback: writers that lose nothing."""

@@ -1,0 +1,22 @@
+"""Checks of values that may be anything."""
+
+LONGEST = 60
+
+
+def is_between(value, least, most):
+    """Tell whether any value is an integer from least to most."""
+    # Python counts True and False as integers, the document does not.
+    return isinstance(value, int) and not isinstance(value, bool) and least <= value <= most
+
+
+def is_tuple_of(value, least, most):
+    """Tell whether any value is a tuple of so many things."""
+    return isinstance(value, tuple) and least <= len(value) <= most
+
+
+def first_outside(things, most):
+    """Return the index of the first thing that is no integer from 0 to most, None if there is none."""
+    for index, thing in enumerate(things):
+        if not is_between(thing, 0, most):
+            return index
+    return None
