@@ -45,6 +45,14 @@ def small_writers():
     return found + some_writers(4, 150, 4, 2)
 
 
+def large_writers():
+    """Writers too large for trying all long rows."""
+    found = [LATEST]
+    for stands in (4, 5, 6):
+        found += some_writers(20 + stands, 15, stands, 2) + some_writers(30 + stands, 15, stands, 3)
+    return found
+
+
 def run(writer, stand, row):
     """What is written for a row from a stand on, and the stand in which it ends."""
     written = []
@@ -56,6 +64,28 @@ def run(writer, stand, row):
 
 def all_rows(writer, many):
     return list(itertools.product(range(writer.letters), repeat=many))
+
+
+def rows_by_written(writer, stand, many):
+    """For all that is written in so many letters from a stand on, the ascending list of the rows."""
+    groups = {}
+    for row in all_rows(writer, many):
+        groups.setdefault(run(writer, stand, row)[0], []).append(row)
+    return groups
+
+
+def all_written(many):
+    return list(itertools.product(range(4), repeat=many))
+
+
+def common_beginning(rows):
+    """The longest beginning of all rows, None if there are none."""
+    if not rows:
+        return None
+    many = 0
+    while many < len(rows[0]) and all(row[many] == rows[0][many] for row in rows):
+        many += 1
+    return rows[0][:many]
 
 
 def reached(writer):
@@ -70,12 +100,8 @@ def most_pairs(writer):
 
 def written_alike(writer, stand, many):
     """All tuples of two rows, the first letter of the first one being less, that are written alike."""
-    groups = {}
-    for row in all_rows(writer, many):
-        groups.setdefault(run(writer, stand, row)[0], []).append(row)
-    return [
-        (one, other) for rows in groups.values() for one in rows for other in rows if one[0] < other[0]
-    ]
+    groups = rows_by_written(writer, stand, many).values()
+    return [(one, other) for rows in groups for one in rows for other in rows if one[0] < other[0]]
 
 
 def slow_delay(writer):

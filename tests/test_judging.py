@@ -2,21 +2,14 @@ import itertools
 import unittest
 
 from samples import (
-    LAST, LATE, LATEST, LATEST_OF_3, LATEST_OF_4, LOST, LOST_LATER, PLAIN, all_tables, most_pairs, reached, run,
-    slow_delay, slow_lost_rows, slow_pairs, slow_rank, small_writers, some_writers, written_alike,
+    LAST, LATE, LATEST, LATEST_OF_3, LATEST_OF_4, LOST, LOST_LATER, PLAIN, all_tables, large_writers, most_pairs,
+    reached, run, slow_delay, slow_lost_rows, slow_pairs, slow_rank, small_writers, some_writers, written_alike,
 )
 from wroteback.errors import BadSize, BadStand
 from wroteback.judging import alike, delay, lost_rows, ranks, shows, word
 from wroteback.writers import Writer
 
 NO_SIZES = [-1, 61, 100, None, True, False, "1", "", (), (1,), [1], {}]
-
-
-def large_writers():
-    found = [LATEST]
-    for stands in (4, 5, 6):
-        found += some_writers(20 + stands, 15, stands, 2) + some_writers(30 + stands, 15, stands, 3)
-    return found
 
 
 class Delays(unittest.TestCase):

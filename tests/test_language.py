@@ -78,6 +78,16 @@ class Language(unittest.TestCase):
             if isinstance(node.func, ast.Attribute):
                 self.assertIn(node.func.attr, METHODS | own, place)
 
+    def test_no_variable_has_the_name_of_an_import_or_class(self):
+        for path, tree in parsed_files():
+            named = {name.name for node in tree.body if isinstance(node, ast.ImportFrom) for name in node.names}
+            named |= {node.name for node in tree.body if isinstance(node, ast.ClassDef)}
+            for node in ast.walk(tree):
+                if isinstance(node, ast.arg):
+                    self.assertNotIn(node.arg, named, path.name)
+                elif isinstance(node, ast.Name) and not isinstance(node.ctx, ast.Load):
+                    self.assertNotIn(node.id, named, path.name)
+
     def test_generator_expressions(self):
         for place, node in all_nodes(ast.Call):
             if isinstance(node.func, ast.Name) and node.func.id in TAKE_LISTS:
@@ -102,6 +112,10 @@ class Language(unittest.TestCase):
         for name, listed in (
             ("writers", ["Writer", "write_row", "stands_of"]),
             ("judging", ["delay", "word", "ranks", "shows", "alike", "lost_rows"]),
+            ("reading", ["count_rows", "stands_after", "sure", "row_to", "back"]),
+            ("census", ["census"]),
+            ("readers", ["Reader"]),
+            ("texts", ["write", "read"]),
         ):
             tree = ast.parse((PACKAGE / f"{name}.py").read_text(encoding="utf-8"))
             defined = {node.name for node in tree.body if isinstance(node, (ast.FunctionDef, ast.ClassDef))}

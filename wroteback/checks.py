@@ -1,6 +1,9 @@
 """Checks of values that may be anything."""
 
+from wroteback.errors import BadStand, BadWritten
+
 LONGEST = 60
+GREATEST_WRITTEN = 3
 
 
 def is_between(value, least, most):
@@ -20,3 +23,18 @@ def first_outside(things, most):
         if not is_between(thing, 0, most):
             return index
     return None
+
+
+def check_stand(writer, stand):
+    """Raise BadStand unless any value is a stand of the writer."""
+    if not is_between(stand, 0, len(writer) - 1):
+        raise BadStand("no stand of the writer")
+
+
+def check_written(written):
+    """Raise BadWritten unless any value is what is written."""
+    if not is_tuple_of(written, 0, LONGEST):
+        raise BadWritten(None)
+    index = first_outside(written, GREATEST_WRITTEN)
+    if index is not None:
+        raise BadWritten(index)

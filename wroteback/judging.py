@@ -1,7 +1,7 @@
 """Whether what was read can be told from what was written."""
 
-from wroteback.checks import LONGEST, is_between, is_tuple_of
-from wroteback.errors import BadSize, BadStand
+from wroteback.checks import LONGEST, check_stand, is_between, is_tuple_of
+from wroteback.errors import BadSize
 from wroteback.pairs import first_pairs, pair_leads, pairs_behind, rank_pairs
 from wroteback.two_rows import APART, PARTING, TOGETHER, least_rows, moves_from, states_before
 
@@ -71,8 +71,7 @@ def _leads_down(table, pair, told):
 
 def alike(writer, stand, many):
     """Return the least two rows of so many letters, unlike in the first one, that are written alike."""
-    if not is_between(stand, 0, len(writer) - 1):
-        raise BadStand("no stand of the writer")
+    check_stand(writer, stand)
     if not is_between(many, 1, LONGEST):
         raise BadSize("rows have from 1 to 60 letters")
     start = (stand, stand, PARTING)

@@ -1,12 +1,11 @@
 """Writers, and what they write."""
 
-from wroteback.checks import LONGEST, first_outside, is_between, is_tuple_of
+from wroteback.checks import GREATEST_WRITTEN, LONGEST, first_outside, is_between, is_tuple_of
 from wroteback.errors import BadRow, BadTable
 
 MOST_STANDS = 6
 LEAST_LETTERS = 2
 MOST_LETTERS = 3
-GREATEST_WRITTEN = 3
 
 
 class Writer:
