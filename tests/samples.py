@@ -145,3 +145,55 @@ def slow_rank(writer, pair):
         if not ones & others:
             return many
         many += 1
+
+
+def written_in(writer, many):
+    """All that the writer can write in so many letters."""
+    return {run(writer, 0, row)[0] for row in all_rows(writer, many)}
+
+
+def places_unlike(one, other):
+    """At how many places two tuples of one length differ."""
+    return sum(left != right for left, right in zip(one, other, strict=True))
+
+
+def nearly(writer, seed):
+    """The writer with one of its steps changed."""
+    chance = random.Random(seed)
+    table = [list(row) for row in writer.table]
+    stand, letter = chance.randrange(len(writer)), chance.randrange(writer.letters)
+    behind, wrote = table[stand][letter]
+    if chance.random() < 0.5:
+        table[stand][letter] = (chance.randrange(len(writer)), wrote)
+    else:
+        table[stand][letter] = (behind, (wrote + chance.randint(1, 3)) % 4)
+    return Writer(tuple(map(tuple, table)))
+
+
+def renumbered(writer, seed):
+    """A writer that writes the same, its stands but 0 in another order."""
+    chance = random.Random(seed)
+    order = [0] + chance.sample(range(1, len(writer)), len(writer) - 1)
+    return Writer(tuple(
+        tuple((order.index(behind), wrote) for behind, wrote in writer.table[stand]) for stand in order
+    ))
+
+
+def doubled(writer, seed):
+    """A writer that writes the same, with one stand more, to which some steps lead in the place of its twin."""
+    chance = random.Random(seed)
+    twin = chance.randrange(len(writer))
+    rows = writer.table + (writer.table[twin],)
+    return Writer(tuple(
+        tuple((len(writer) if behind == twin and chance.random() < 0.5 else behind, wrote) for behind, wrote in row)
+        for row in rows
+    ))
+
+
+def writers_of_all_kinds(seed, many):
+    """So many writers of each number of stands and of letters, and some of each word."""
+    found = [LATE, PLAIN, LOST, LOST_LATER, LAST, LATEST_OF_3, LATEST_OF_4]
+    for stands in range(1, 7):
+        for letters in (2, 3):
+            found += some_writers(seed * 100 + stands * 10 + letters, many, stands, letters)
+    return found

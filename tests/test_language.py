@@ -116,6 +116,10 @@ class Language(unittest.TestCase):
             ("census", ["census"]),
             ("readers", ["Reader"]),
             ("texts", ["write", "read"]),
+            ("likes", ["first_unlike", "smallest", "joined"]),
+            ("sets", ["least_never", "count_written", "first_more"]),
+            ("wrong", ["fewest_wrong", "mended", "gap", "whole_gap", "letters_for"]),
+            ("told", ["tables_for", "sure_next"]),
         ):
             tree = ast.parse((PACKAGE / f"{name}.py").read_text(encoding="utf-8"))
             defined = {node.name for node in tree.body if isinstance(node, (ast.FunctionDef, ast.ClassDef))}

@@ -1,6 +1,6 @@
 """Checks of values that may be anything."""
 
-from wroteback.errors import BadStand, BadWritten
+from wroteback.errors import BadSize, BadStand, BadWritten
 
 LONGEST = 60
 GREATEST_WRITTEN = 3
@@ -23,6 +23,12 @@ def first_outside(things, most):
         if not is_between(thing, 0, most):
             return index
     return None
+
+
+def check_size(value, least, most):
+    """Raise BadSize unless any value is an integer from least to most."""
+    if not is_between(value, least, most):
+        raise BadSize(f"no integer from {least} to {most}")
 
 
 def check_stand(writer, stand):

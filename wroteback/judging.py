@@ -1,7 +1,6 @@
 """Whether what was read can be told from what was written."""
 
-from wroteback.checks import LONGEST, check_stand, is_between, is_tuple_of
-from wroteback.errors import BadSize
+from wroteback.checks import LONGEST, check_size, check_stand, is_between, is_tuple_of
 from wroteback.pairs import first_pairs, pair_leads, pairs_behind, rank_pairs
 from wroteback.two_rows import APART, PARTING, TOGETHER, least_rows, moves_from, states_before
 
@@ -34,8 +33,7 @@ def ranks(writer):
 
 def shows(writer, bound, value):
     """Tell whether any value shows that the delay is at most bound."""
-    if not is_between(bound, 0, LONGEST):
-        raise BadSize("a bound is an integer from 0 to 60")
+    check_size(bound, 0, LONGEST)
     told = _told_ranks(value, len(writer), bound)
     if told is None:
         return False
@@ -72,8 +70,7 @@ def _leads_down(table, pair, told):
 def alike(writer, stand, many):
     """Return the least two rows of so many letters, unlike in the first one, that are written alike."""
     check_stand(writer, stand)
-    if not is_between(many, 1, LONGEST):
-        raise BadSize("rows have from 1 to 60 letters")
+    check_size(many, 1, LONGEST)
     start = (stand, stand, PARTING)
     moves = moves_from(writer.table, start)
     levels = [{state: True for state in moves}]

@@ -4,6 +4,7 @@ from wroteback.checks import GREATEST_WRITTEN, check_stand, check_written, is_be
 from wroteback.errors import Late
 from wroteback.judging import delay
 from wroteback.rows import choices_along, count_ends, sure_letters
+from wroteback.ways import rows_in_order
 
 MOST_AHEAD = 3
 
@@ -41,16 +42,9 @@ def back(writer):
     ahead = delay(writer)
     if not is_between(ahead, 0, MOST_AHEAD):
         raise Late("no delay from 0 to 3")
-    pairs = [(0, ())]
-    found = []
-    while len(found) < len(pairs):
-        steps = _steps_back(writer.table, ahead, pairs[len(found)])
-        for step in steps:
-            if step is not None and step[0] not in pairs:
-                pairs.append(step[0])
-        found.append(steps)
-    numbers = {pair: number for number, pair in enumerate(pairs)}
-    return tuple([_numbered(steps, numbers) for steps in found])
+    rows = rows_in_order((0, ()), lambda pair: _steps_back(writer.table, ahead, pair))
+    numbers = {pair: number for number, pair in enumerate(rows)}
+    return tuple([_numbered(steps, numbers) for steps in rows.values()])
 
 
 def _steps_back(table, ahead, pair):
